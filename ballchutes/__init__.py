@@ -1,0 +1,1 @@
+"""Nets of chutes in which balls drop from knot to knot."""
