@@ -1,0 +1,66 @@
+"""What the interface lists stands in the files and classes under which it lists it."""
+
+import ast
+import importlib
+import inspect
+import unittest
+from pathlib import Path
+
+PACKAGE = Path(__file__).resolve().parent.parent / "ballchutes"
+
+ERRORS = ("ChuteError", "BadNet", "BadStanding", "BadBalls", "BadOrder", "NeverEnds", "NoPart", "NotBack", "TooLarge",
+          "Unlike", "BadShares", "BadText", "BadPiece", "NothingDone")
+CLASSES = {
+    "errors": {name: {} for name in ERRORS},
+    "nets": {"Net": {"__init__": "knots, inlets, outlets", "start": "", "dropped": "name, place, many",
+                     "place_behind": "name, place, many", "__len__": "", "__contains__": "name", "__eq__": "other"}},
+    "settling": {"Settled": {"__init__": "taken, out, standing, order", "shows": "net, balls, standing=None",
+                             "__eq__": "other"}},
+    "ending": {"Ends": {"__init__": "weights", "shows": "net", "__bool__": "", "__eq__": "other"},
+               "Never": {"__init__": "balls, lead, ring", "shows": "net", "__bool__": "", "__eq__": "other"}},
+    "rounds": {"Round": {"__init__": "many, turns", "shows": "net, name", "__eq__": "other"}},
+    "shares": {"Shares": {"__init__": "worths", "shows": "net, outlet", "__eq__": "other"}},
+    "lags": {"Levels": {"__init__": "worths, heights", "shows": "net, outlet", "__eq__": "other"}},
+    "courses": {"Course": {"__init__": "front, period", "total": "many", "balls_for": "outlet, many",
+                           "rows_from": "*, start=0", "__getitem__": "ball", "__eq__": "other",
+                           "shows": "net, name, standing=None"}},
+}
+FUNCTIONS = {
+    "settling": {"settle": "net, balls, standing=None", "played": "net, balls, order, standing=None",
+                 "knots_in_turn": "net, balls, standing=None"},
+    "ending": {"judge_ends": "net", "ends": "net"},
+    "rounds": {"comes_back": "net, standing", "first_back": "net, standing", "many_back": "net",
+               "ahead": "net, standing, name", "same_back": "net, one, other", "round_of": "net, name"},
+    "shares": {"shares": "net, outlet", "share_of": "net, name, outlet", "gained": "net, name, outlet"},
+    "lags": {"levels": "net, outlet", "lag": "net, outlet, one, other", "spread": "net, outlet"},
+    "courses": {"course": "net, name, standing=None"},
+}
+
+
+def tree_of(file):
+    return ast.parse((PACKAGE / f"{file}.py").read_text(encoding="utf-8"))
+
+
+def arguments(function, method=False):
+    told = str(inspect.signature(function))[1:-1]
+    return told.removeprefix("self").removeprefix(", ") if method else told
+
+
+class Interface(unittest.TestCase):
+    def test_classes_and_their_own_methods(self):
+        for file, classes in CLASSES.items():
+            module = importlib.import_module(f"ballchutes.{file}")
+            defined = {part.name: part for part in tree_of(file).body if isinstance(part, ast.ClassDef)}
+            for name, methods in classes.items():
+                own = [part.name for part in defined[name].body if isinstance(part, ast.FunctionDef)]
+                for method, told in methods.items():
+                    self.assertIn(method, own)
+                    self.assertEqual(arguments(getattr(getattr(module, name), method), True), told, (name, method))
+
+    def test_functions(self):
+        for file, functions in FUNCTIONS.items():
+            module = importlib.import_module(f"ballchutes.{file}")
+            defined = [part.name for part in tree_of(file).body if isinstance(part, ast.FunctionDef)]
+            for name, told in functions.items():
+                self.assertIn(name, defined)
+                self.assertEqual(arguments(getattr(module, name)), told, name)
