@@ -15,14 +15,21 @@ def check_net(net):
         raise BadNet(None)
 
 
+def is_standing(net, told):
+    """Whether this is a dict of all knots of the net, and no others, to places of theirs."""
+    if not isinstance(told, dict) or len(told) != len(net):
+        return False
+    for knot, (front, turn) in net.knots.items():
+        place = told.get(knot)
+        if not is_number(place) or not 0 <= place < len(front) + len(turn):
+            return False
+    return True
+
+
 def check_standing(net, standing):
     """Raises BadStanding if this is no standing of the net."""
-    if not isinstance(standing, dict) or len(standing) != len(net):
-        raise BadStanding("a standing is a dict of all knots of the net to places")
-    for knot, (front, turn) in net.knots.items():
-        place = standing.get(knot)
-        if not is_number(place) or not 0 <= place < len(front) + len(turn):
-            raise BadStanding(f"the knot {knot} has no such place")
+    if not is_standing(net, standing):
+        raise BadStanding("a standing is a dict of all knots of the net to places of theirs")
 
 
 def are_balls(balls, names):

@@ -59,6 +59,11 @@ class Net:
                 and self.inlets == other.inlets and self.outlets == other.outlets)
 
 
+def copy_of(net):
+    """A new net that is equal to this one."""
+    return Net(net.knots, net.inlets, net.outlets)
+
+
 def add_drops(counts, drops, times):
     """Adds to counts what falls if each of these drops is done so many times."""
     for drop in drops:

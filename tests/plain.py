@@ -126,3 +126,52 @@ def worths(net, outlet):
     right = {knot: Fraction(sum(drop.count(outlet) for drop in turn), len(turn))
              for knot, (_, turn) in net.knots.items()}
     return solved(net, right)
+
+
+def reached(net, standing):
+    """The standings to which lists of inlets lead, in the order of these lists, all of which are tried."""
+    found, longest = [standing], 0
+    layer = {(): standing}
+    while layer:
+        longest += 1
+        wider = {}
+        for inlets in product(sorted(net.inlets), repeat=longest):
+            before = layer.get(inlets[:-1])
+            if before is not None:
+                _, behind_it = row_behind(net, inlets[-1], before)
+                # Lists that begin with one that leads nowhere new lead nowhere new either.
+                if behind_it not in found:
+                    found.append(behind_it)
+                    wider[inlets] = behind_it
+        layer = wider
+    return found
+
+
+def out_of(net, inlets, standing):
+    """The rows of balls at these inlets, one by one."""
+    rows = []
+    for inlet in inlets:
+        row, standing = row_behind(net, inlet, standing)
+        rows.append(row)
+    return rows
+
+
+def parting(one, other, longest, first=None, second=None):
+    """The first list of inlets by whose last ball unlike numbers come out of two nets, None if none is so long."""
+    starts = (first or start(one), second or start(other))
+    for length in range(1, longest + 1):
+        for inlets in product(sorted(one.inlets), repeat=length):
+            if out_of(one, inlets, starts[0])[-1] != out_of(other, inlets, starts[1])[-1]:
+                return list(inlets)
+    return None
+
+
+def fewest_telling(one, other, most):
+    """The least number of balls in all for which unlike numbers come out of two nets, None if none up to most is."""
+    names = sorted(one.inlets)
+    for total in range(1, most + 1):
+        for numbers in product(range(total + 1), repeat=len(names)):
+            balls = dict(zip(names, numbers))
+            if sum(numbers) == total and rest(one, balls, start(one))[1] != rest(other, balls, start(other))[1]:
+                return total
+    return None

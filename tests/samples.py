@@ -2,7 +2,7 @@
 
 from random import Random
 
-from ballchutes.errors import BadNet, NeverEnds
+from ballchutes.errors import BadNet, NeverEnds, Unlike
 from ballchutes.nets import Net
 from tests import plain
 
@@ -118,3 +118,35 @@ def wrong_standings(net):
             {**start, first: 99}, {**start, first: False}, {**start, first: "0"}, {**start, first: None},
             {knot: 0 for knot in start if knot != first}, {"q": 0, **{knot: 0 for knot in start if knot != first}},
             {**start, first: len(net.knots[first][0]) + len(net.knots[first][1])}]
+
+
+def begun(net, standing):
+    """The net that begins at a standing, by its rows."""
+    knots = {}
+    for knot, (front, turn) in net.knots.items():
+        place = standing[knot] - len(front)
+        knots[knot] = (front[standing[knot]:], turn) if place < 0 else ((), turn[place:] + turn[:place])
+    return Net(knots, net.inlets, net.outlets)
+
+
+def refuse_pairs(case, call):
+    """This call, which is told two nets, refuses those that are none, then those that go on, then unlike ones."""
+    for net in NO_NETS:
+        for other in (told(), endless()["itself"]):
+            for pair in ((net, other), (other, net)):
+                with case.assertRaises(BadNet) as caught:
+                    call(*pair)
+                case.assertIsNone(caught.exception.name)
+    for net in endless().values():
+        for pair in ((net, told()), (told(), net), (net, net), (net, walk())):
+            with case.assertRaises(NeverEnds):
+                call(*pair)
+    one = told()
+    unlike = ((Net(one.knots, {"on": "a"}, ["x", "y"]), "inlets"), (Net(one.knots, {"on": "a"}, ["x", "y", "z"]), "inlets"),
+              (Net(one.knots, {"in": "a", "on": "a"}, ["x", "y"]), "inlets"),
+              (Net(one.knots, {"in": "a"}, ["x", "y", "z"]), "outlets"))
+    for other, what in unlike:
+        for pair in ((one, other), (other, one)):
+            with case.assertRaises(Unlike) as caught:
+                call(*pair)
+            case.assertEqual(caught.exception.what, what)

@@ -24,6 +24,11 @@ CLASSES = {
     "courses": {"Course": {"__init__": "front, period", "total": "many", "balls_for": "outlet, many",
                            "rows_from": "*, start=0", "__getitem__": "ball", "__eq__": "other",
                            "shows": "net, name, standing=None"}},
+    "ways": {"Ways": {"__init__": "standings, steps", "follow": "rows, number=0", "__len__": "", "__eq__": "other",
+                      "shows": "net, standing=None"}},
+    "alikes": {"Alike": {"__init__": "pairs", "shows": "one, other", "__bool__": "", "__eq__": "other"},
+               "Told": {"__init__": "balls", "shows": "one, other", "__bool__": "", "__eq__": "other"}},
+    "making": {"Made": {"__init__": "net", "shows": "shares, ways", "__eq__": "other"}},
 }
 FUNCTIONS = {
     "settling": {"settle": "net, balls, standing=None", "played": "net, balls, order, standing=None",
@@ -34,6 +39,10 @@ FUNCTIONS = {
     "shares": {"shares": "net, outlet", "share_of": "net, name, outlet", "gained": "net, name, outlet"},
     "lags": {"levels": "net, outlet", "lag": "net, outlet, one, other", "spread": "net, outlet"},
     "courses": {"course": "net, name, standing=None"},
+    "ways": {"ways": "net, standing=None", "classes_of": "ways", "told_apart": "ways, one, other"},
+    "alikes": {"judge_alike": "one, other"},
+    "joining": {"begun_at": "net, standing", "renamed": "net, names", "joined": "one, other, links", "straight": "net"},
+    "making": {"made": "shares, ways", "least_wheels": "shares, ways"},
 }
 
 

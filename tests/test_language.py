@@ -98,11 +98,13 @@ class Names(unittest.TestCase):
 
     def test_no_name_has_two_meanings(self):
         for name, tree in trees():
-            given = [part.name for part in tree.body if isinstance(part, (ast.FunctionDef, ast.ClassDef))]
-            given += [alias.name for part in tree.body if isinstance(part, ast.ImportFrom) for alias in part.names]
+            kept = [part.name for part in tree.body if isinstance(part, ast.ClassDef)]
+            kept += [alias.name for part in tree.body if isinstance(part, ast.ImportFrom) for alias in part.names]
+            given = kept + [part.name for part in tree.body if isinstance(part, ast.FunctionDef)]
+            given += [target.id for part in tree.body if isinstance(part, ast.Assign) for target in part.targets]
             self.assertEqual(len(given), len(set(given)), name)
             self.assertFalse(set(given) & set(dir(builtins)), name)
-            self.assertFalse(set(bound_names(tree)) & (set(given) | set(dir(builtins))), name)
+            self.assertFalse(set(bound_names(tree)) & (set(kept) | set(dir(builtins))), name)
 
     def test_barred_words(self):
         for name, tree in trees():
