@@ -29,6 +29,15 @@ CLASSES = {
     "alikes": {"Alike": {"__init__": "pairs", "shows": "one, other", "__bool__": "", "__eq__": "other"},
                "Told": {"__init__": "balls", "shows": "one, other", "__bool__": "", "__eq__": "other"}},
     "making": {"Made": {"__init__": "net", "shows": "shares, ways", "__eq__": "other"}},
+    "books": {"Book": {"__init__": "", "__getitem__": "name", "__contains__": "name", "__len__": "", "titles": "",
+                       "put": "name, net", "undo": "", "claim_alike": "one, other", "drop": "name", "trial": "",
+                       "claim_share": "name, entry, outlet", "attempt": "deed"}},
+    "freeing": {"Free": {"__init__": "pairs", "shows": "net, names", "__bool__": "", "__eq__": "other"},
+                "Bound": {"__init__": "standing, balls", "shows": "net, names", "__bool__": "", "__eq__": "other"}},
+    "evenness": {"Even": {"__init__": "least, most, low, high, standings", "shows": "net, one, other", "__bool__": "",
+                          "__eq__": "other"},
+                 "Uneven": {"__init__": "inlet, balls, more", "shows": "net, one, other", "__bool__": "",
+                            "__eq__": "other"}},
 }
 FUNCTIONS = {
     "settling": {"settle": "net, balls, standing=None", "played": "net, balls, order, standing=None",
@@ -43,6 +52,9 @@ FUNCTIONS = {
     "alikes": {"judge_alike": "one, other"},
     "joining": {"begun_at": "net, standing", "renamed": "net, names", "joined": "one, other, links", "straight": "net"},
     "making": {"made": "shares, ways", "least_wheels": "shares, ways"},
+    "nettexts": {"read_net": "text", "write_net": "net"},
+    "freeing": {"judge_free": "net, names", "free_sets": "net"},
+    "evenness": {"judge_even": "net, one, other"},
 }
 
 

@@ -226,7 +226,7 @@ class Joined(unittest.TestCase):
             self.refused(NoPart, one, other, {name: "q", "x": "r"}, name)
         for name in ("q", "c", "in", "z", "", None, 5, ["on"], True):
             self.refused(NoPart, one, other, {"x": "on", "y": name}, name)
-            self.refused(NoPart, one, one, {"x": name if name != "in" else "q", "r": "on"}, name if name != "in" else "q")
+            self.refused(NoPart, one, other, {"x": name, "r": "on"}, name)
 
     def test_names_of_both(self):
         two = Net({"c": ((), (("b",),)), "b": ((), (("a",),)), "a": ((), (("y",),))}, {"in": "c", "on": "b"}, ["y"])
