@@ -1,6 +1,6 @@
 """Whether two nets bring the same out for all balls, with evidence for both."""
 
-from ballchutes.checking import are_balls, check_net, is_number
+from ballchutes.checking import are_balls, check_net
 from ballchutes.errors import Unlike
 from ballchutes.pairing import first_apart, stays_within
 from ballchutes.settling import settle
@@ -63,9 +63,9 @@ def check_both(one, other):
 
 
 def is_pair(pair, many, other_many):
-    """Whether this is a pair of numbers from 0 below these."""
+    """Whether the numbers of this pair are from 0 on, and below these."""
     one, other = pair
-    return is_number(one) and is_number(other) and 0 <= one < many and 0 <= other < other_many
+    return 0 <= one < many and 0 <= other < other_many
 
 
 def judge_alike(one, other):

@@ -40,9 +40,6 @@ class Trial:
 
     def __init__(self, book):
         self.book = book
-        self.nets = {}
-        self.claims = []
-        self.done = []
 
     def __enter__(self):
         # A book never changes these in place: so they need no copies.

@@ -5,7 +5,7 @@ from math import gcd
 from ballchutes.checking import check_net, is_number
 from ballchutes.ending import ends
 from ballchutes.errors import BadShares
-from ballchutes.nets import MOST_KNOTS, Net, copy_of, is_name
+from ballchutes.nets import Net, copy_of, is_name
 from ballchutes.ratios import fraction
 from ballchutes.shares import share_of
 
@@ -26,7 +26,7 @@ class Made:
         check_shares(shares, ways)
         if list(self.net.inlets) != [INLET] or list(self.net.outlets) != sorted(shares):
             return False
-        if len(self.net) > MOST_KNOTS or not all([is_wheel(rows, ways) for rows in self.net.knots.values()]):
+        if not all([is_wheel(rows, ways) for rows in self.net.knots.values()]):
             return False
         total = sum(list(shares.values()))
         return ends(self.net) and all([share_of(self.net, INLET, name) == fraction(number, total)

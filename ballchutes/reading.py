@@ -227,7 +227,7 @@ def read_use(reader):
     links = []
     if reader.part() != ")":
         links.append(read_link(reader))
-    while len(links) > 0 and reader.part() == ",":
+    while reader.part() == ",":
         reader.take_mark(",")
         links.append(read_link(reader))
     reader.take_mark(")")

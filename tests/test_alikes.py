@@ -134,7 +134,8 @@ class ShowingAlike(unittest.TestCase):
         self.assertIs(self.shows([]), False)
 
     def test_pairs_of_unlike_standings_and_numbers_too_high(self):
-        for wrong in ((0, 1), (1, 0), (1, 2), (0, 7), (4, 0), (0, 10 ** 30), (-1, -1), (-4, 0), (0, -1), (99, 99)):
+        for wrong in ((0, 1), (1, 0), (1, 2), (0, 7), (4, 0), (0, 10 ** 30), (-1, -1), (-1, 6), (3, -1), (-4, 0), (0, -1),
+                      (99, 99)):
             self.assertIs(self.shows(self.pairs + [wrong]), False)
 
     def test_the_first_pair_is_needed(self):
@@ -182,6 +183,9 @@ class ShowingTold(unittest.TestCase):
                       {"in": -2, "on": -1}, {"in": 2, "b": 1}, {"in": 0, "on": 0}):
             self.assertIs(Told(balls).shows(one, other), False)
         self.assertIs(Told({"in": 2, "on": 1}).shows(one, one), False)
+        other = Net({**one.knots, "a": ((), (("y",),))}, one.inlets, one.outlets)
+        self.assertEqual([Told(balls).shows(one, other) for balls in ({"in": 1, "on": 0}, {"in": 1}, {"in": 1, "on": 0, "q": 0})],
+                         [True, False, False])
 
     def test_copies_and_equality(self):
         balls = {"in": 1, "on": 2}

@@ -37,6 +37,7 @@ class Puts(unittest.TestCase):
             self.assertIsNone(book.put(name, row("xy")))
         self.assertEqual((len(book), book.titles()), (4, ["", "One two! \u00e9", "a" * 100, "two"]))
         self.assertEqual((book["two"], "two" in book, "three" in book, 5 in book), (row("xy"), True, False, False))
+        self.assertIs(["two"] in book, False)
 
     def test_a_net_in_the_place_of_one(self):
         book = filled(a="xy", b="x")

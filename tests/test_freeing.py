@@ -28,6 +28,13 @@ def instead():
     return Net({"a": ((), (("p", "q"),)), "p": once, "q": once, "r": ((("x",),), ((),))}, {"i": "a", "j": "r"}, ["x"])
 
 
+def twice_instead():
+    """A net in which one knot does what both of two other ones do not, and they do what it does not."""
+    last = ((("x",),), ((),))
+    knots = {"a": ((), (("p", "q", "s"),)), "p": ((("r",),), ((),)), "q": ((("r", "t"),), ((),)), "s": ((("t",),), ((),))}
+    return Net({**knots, "r": last, "t": last}, {"i": "a", "j": "r", "k": "t"}, ["x"])
+
+
 def all_starts(net, names):
     return [standing for standing in plain.all_standings(net)
             if all(place == 0 or knot in names for knot, place in standing.items())]
@@ -144,6 +151,8 @@ class Sets(unittest.TestCase):
     def test_several_greatest_sets(self):
         self.assertEqual(free_sets(instead()), [("a", "p"), ("a", "q")])
         self.assertEqual(free_sets(instead()), self.expected(instead()))
+        self.assertEqual(free_sets(twice_instead()), [("a", "p", "s"), ("a", "q")])
+        self.assertEqual(free_sets(twice_instead()), self.expected(twice_instead()))
         for names, free in ((["p"], True), (["q", "a"], True), (["p", "q"], False), (["r"], False), (["a", "p", "q"], False)):
             found = judge_free(instead(), names)
             self.assertEqual((bool(found), found.shows(instead(), names)), (free, True))
@@ -222,7 +231,7 @@ class ShowingFree(unittest.TestCase):
         one, other = {"a": 0}, {"a": 1}
         pairs = [(one, other)]
         found = Free(pairs)
-        one["a"] = 5
+        one["a"] = other["a"] = 5
         pairs.clear()
         self.assertEqual((found.pairs, Free((({"a": 0}, {"a": 1}),)).pairs), ([({"a": 0}, {"a": 1})],) * 2)
         self.assertEqual(found, Free([({"a": 0}, {"a": 1})]))

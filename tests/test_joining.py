@@ -140,6 +140,8 @@ class Renamed(unittest.TestCase):
                 self.refused(BadNet, {part: name}, None)
         self.refused(BadNet, {"a": "Q", "x": "R", "i": "S"}, "Q")
         self.refused(BadNet, {"x": "R", "i": "S"}, "R")
+        self.refused(BadNet, {"a": "Q", "b": None, "c": None}, "Q")
+        self.refused(BadNet, {"b": None, "c": "Q", "a": "d"}, None)
 
     def test_no_nets_and_nothing_changed(self):
         for net in samples.NO_NETS:

@@ -88,6 +88,13 @@ class Using(unittest.TestCase):
         self.assertEqual(net, Net({"s.k": ((("s.l",),), ((),)), "s.l": ((), ((), ("s.k",)))},
                                   {"in": "s.k", "on": "s.l", "up": "s.k"}, []))
 
+    def test_inlets_and_outlets_in_any_order(self):
+        piece = lines("piece p(b, a; r, o)", "inlet {}: k", "inlet {}: k", "knot k: (o) (r)", "end", "outlet x", "outlet y",
+                      "inlet in: u.b", "use u = p({}, {})")
+        expected = Net({"u.k": ((), (("x",), ("y",)))}, {"in": "u.k"}, ["x", "y"])
+        for names in (("a", "b", "o = x", "r = y"), ("b", "a", "r = y", "o = x")):
+            self.assertEqual(read_net(piece.format(*names)), expected)
+
     def test_pieces_use_pieces(self):
         net = read_net(lines("piece half(a; o, p)", "inlet a: w", "wheel w: o p", "end",
                              "piece quarter(b; one, rest)", "use top = half(o = low.a, p = rest)", "inlet b: top.a",
@@ -201,6 +208,9 @@ class Form(unittest.TestCase):
             self.refused(f"{kind} a2: x", 1, len(kind) + 4)
             self.refused(f"{kind} a 2: x y", 1, len(kind) + 9)
         self.refused("knot a: (4)", 1, 10)
+        # Figures with a zero in front are no number, so they come ahead of what cannot stand.
+        self.refused("inlet inlet: 05", 1, 14)
+        self.refused("inlet inlet: 0 50", 1, 7)
         self.refused("inlet 4: a", 1, 7)
 
     def test_too_many(self):
