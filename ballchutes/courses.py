@@ -2,6 +2,7 @@
 
 from ballchutes.checking import check_standing, knot_of
 from ballchutes.playing import Play
+from ballchutes.repeating import shortest_rows
 from ballchutes.turning import turn_inverse
 
 
@@ -89,7 +90,8 @@ def course(net, name, standing=None):
         met[place] = len(rows)
         rows.append(next_row(play, knot))
         place = tuple(play.standing.values())
-    return shortest(rows[:met[place]], rows[met[place]:])
+    front, period = shortest_rows(rows[:met[place]], rows[met[place]:])
+    return Course(front, period)
 
 
 def next_row(play, knot):
@@ -98,21 +100,3 @@ def next_row(play, knot):
     play.fall(knot, 1)
     play.rest()
     return tuple([now - then for now, then in zip(play.out.values(), had)])
-
-
-def shortest(front, period):
-    """The course of these rows with a front and a period as short as can be."""
-    period = period[:least_period(period)]
-    behind = len(front)
-    while behind > 0 and front[behind - 1] == period[(behind - 1 - len(front)) % len(period)]:
-        behind -= 1
-    turned = (behind - len(front)) % len(period)
-    return Course(front[:behind], period[turned:] + period[:turned])
-
-
-def least_period(rows):
-    """The length of the shortest rows that are these ones when done again and again."""
-    for length in range(1, len(rows)):
-        if len(rows) % length == 0 and rows == rows[:length] * (len(rows) // length):
-            return length
-    return len(rows)

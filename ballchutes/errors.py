@@ -81,3 +81,15 @@ class BadPiece(ChuteError):
 
 class NothingDone(ChuteError):
     """There is nothing that can be undone."""
+
+
+class BadGoal(ChuteError):
+    """What is told is no goal for outlets of the net."""
+
+
+class BadNumber(ChuteError):
+    """What is told is none of the numbers that can be asked for, or not so many as can be."""
+
+
+class BadChange(ChuteError):
+    """What is told is no change of the net."""

@@ -4,6 +4,7 @@ from ballchutes.checking import are_balls, is_standing
 from ballchutes.errors import NoPart
 from ballchutes.pairing import first_apart, stays_within
 from ballchutes.settling import settle
+from ballchutes.subsets import parts_less_one, sets_with_one_more, wider_sets
 from ballchutes.turning import turn_inverse
 from ballchutes.walking import Walk, places_of, standing_at
 
@@ -144,21 +145,6 @@ def free_sets(net):
         near = far
     greatest = [names for names in free if not any([wider in free for wider in sets_with_one_more(net, names)])]
     return sorted(greatest, key=size_first)
-
-
-def wider_sets(net, sets):
-    """These ascending sets, each with one more knot behind its last one."""
-    return [(*names, knot) for names in sets for knot in net.knots if len(names) == 0 or knot > names[-1]]
-
-
-def parts_less_one(names):
-    """The sets that are left without one of these names."""
-    return [names[:at] + names[at + 1:] for at in range(len(names))]
-
-
-def sets_with_one_more(net, names):
-    """The ascending sets of these knots and one more."""
-    return [tuple(sorted([*names, knot])) for knot in net.knots if knot not in names]
 
 
 def size_first(names):

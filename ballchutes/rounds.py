@@ -5,7 +5,7 @@ from math import gcd
 from ballchutes.checking import check_standing, knot_of
 from ballchutes.errors import NotBack
 from ballchutes.playing import Play
-from ballchutes.turning import turn_inverse
+from ballchutes.turning import left_by_turns, turn_inverse
 
 
 class Round:
@@ -101,15 +101,11 @@ def ahead(net, standing, name):
 
 def same_back(net, one, other):
     """Whether two dicts of balls lead each standing that comes back to the same one."""
-    determinant, rows = turn_inverse(net)
+    inverse = turn_inverse(net)
     ones = balls_at_knots(net, one)
     others = balls_at_knots(net, other)
-    more = [ones[knot] - others[knot] for knot in net.knots]
     # They do if whole turns of knots take what the ones are more than the others.
-    for column in zip(*rows):
-        if sum([many * part for many, part in zip(more, column)]) % determinant != 0:
-            return False
-    return True
+    return not any(left_by_turns(inverse, [ones[knot] - others[knot] for knot in net.knots]))
 
 
 def balls_at_knots(net, balls):

@@ -6,6 +6,7 @@ turn in its own column, and in each column takes off the balls that fall to that
 
 from ballchutes.checking import check_net
 from ballchutes.errors import NeverEnds
+from ballchutes.lattices import dot
 
 
 def falls_in_turn(net, knot, target):
@@ -55,3 +56,12 @@ def turn_inverse(net):
     if determinant == 0:
         raise NeverEnds("the net does not end")
     return determinant, rows
+
+
+def left_by_turns(inverse, numbers):
+    """What tells numbers, one for each knot, up to whole turns: as many numbers, all 0 just for sums of whole turns.
+
+    Those of a sum are the sums of those of its parts, modulo the determinant, which is told first in the inverse.
+    """
+    determinant, rows = inverse
+    return [dot(numbers, column) % determinant for column in zip(*rows)]

@@ -175,3 +175,54 @@ def fewest_telling(one, other, most):
             if sum(numbers) == total and rest(one, balls, start(one))[1] != rest(other, balls, start(other))[1]:
                 return total
     return None
+
+
+def numbers_in_all(names, total):
+    """All tuples of numbers from 0, one for each name, with this sum, ascending."""
+    return [numbers for numbers in product(range(total + 1), repeat=len(names)) if sum(numbers) == total]
+
+
+def out_by(net, numbers, standing):
+    """What comes out by these numbers of balls at the inlets, ascending."""
+    return rest(net, dict(zip(sorted(net.inlets), numbers)), standing)[1]
+
+
+def same_for_ever(one, other, first, second):
+    """Whether the same comes out of two nets, from a standing of each, by all balls at inlets."""
+    met, near = set(), [(first, second)]
+    while near:
+        pair = near.pop()
+        for inlet in one.inlets:
+            row, behind_it = row_behind(one, inlet, pair[0])
+            other_row, other_behind = row_behind(other, inlet, pair[1])
+            if row != other_row:
+                return False
+            if (key(behind_it), key(other_behind)) not in met:
+                met.add((key(behind_it), key(other_behind)))
+                near.append((behind_it, other_behind))
+    return True
+
+
+def led_to(net, names, standing):
+    """For all standings to which balls at these names lead, by keys, the standing and the least number of balls."""
+    found, near, many = {key(standing): (standing, 0)}, [standing], 0
+    while near:
+        many += 1
+        far = []
+        for now in near:
+            for name in names:
+                then = behind(net, {name: 1}, now)
+                if key(then) not in found:
+                    found[key(then)] = (then, many)
+                    far.append(then)
+        near = far
+    return found
+
+
+def drops_from(net, knot, place, many):
+    """The drops that a knot does from a place on, so many."""
+    drops = []
+    for _ in range(many):
+        drops.append(drop_at(net, knot, place))
+        place = next_place(net, knot, place)
+    return drops

@@ -3,15 +3,16 @@
 import unittest
 
 from ballchutes import errors
-from ballchutes.errors import (BadBalls, BadNet, BadOrder, BadPiece, BadShares, BadStanding, BadText, ChuteError,
-                               NeverEnds, NoPart, NotBack, NothingDone, TooLarge, Unlike)
+from ballchutes.errors import (BadBalls, BadChange, BadGoal, BadNet, BadNumber, BadOrder, BadPiece, BadShares,
+                               BadStanding, BadText, ChuteError, NeverEnds, NoPart, NotBack, NothingDone, TooLarge,
+                               Unlike)
 
 
 class Errors(unittest.TestCase):
     def test_all_are_direct_subclasses(self):
         self.assertEqual(ChuteError.__bases__, (ValueError,))
         for error in (BadNet, BadStanding, BadBalls, BadOrder, NeverEnds, NoPart, NotBack, TooLarge, Unlike,
-                      BadShares, BadText, BadPiece, NothingDone):
+                      BadShares, BadText, BadPiece, NothingDone, BadGoal, BadNumber, BadChange):
             self.assertEqual(error.__bases__, (ChuteError,))
             self.assertEqual(error.__module__, errors.__name__)
 

@@ -9,7 +9,7 @@ from pathlib import Path
 PACKAGE = Path(__file__).resolve().parent.parent / "ballchutes"
 
 ERRORS = ("ChuteError", "BadNet", "BadStanding", "BadBalls", "BadOrder", "NeverEnds", "NoPart", "NotBack", "TooLarge",
-          "Unlike", "BadShares", "BadText", "BadPiece", "NothingDone")
+          "Unlike", "BadShares", "BadText", "BadPiece", "NothingDone", "BadGoal", "BadNumber", "BadChange")
 CLASSES = {
     "errors": {name: {} for name in ERRORS},
     "nets": {"Net": {"__init__": "knots, inlets, outlets", "start": "", "dropped": "name, place, many",
@@ -38,6 +38,19 @@ CLASSES = {
                           "__eq__": "other"},
                  "Uneven": {"__init__": "inlet, balls, more", "shows": "net, one, other", "__bool__": "",
                             "__eq__": "other"}},
+    "goals": {"Met": {"__init__": "balls, lacks", "shows": "net, goal, standing=None", "__bool__": "", "__eq__": "other"},
+              "Short": {"__init__": "outlet, most", "shows": "net, goal, standing=None", "__bool__": "",
+                        "__eq__": "other"}},
+    "telling": {"Telling": {"__init__": "balls, pairs, closed", "shows": "net, standings", "__eq__": "other"}},
+    "rooms": {"Fits": {"__init__": "steps", "shows": "net, balls, room", "__bool__": "", "__eq__": "other"},
+              "Jams": {"__init__": "counts", "shows": "net, balls, room", "__bool__": "", "__eq__": "other"}},
+    "changing": {"Mend": {"__init__": "change", "shows": "net, goal", "__bool__": "", "__eq__": "other"},
+                 "NoMend": {"__init__": "told", "shows": "net, goal", "__bool__": "", "__eq__": "other"}},
+    "reaching": {"Reaches": {"__init__": "balls", "shows": "net, one, other, names", "__bool__": "", "__eq__": "other"},
+                 "Barred": {"__init__": "weights, modulus", "shows": "net, one, other, names", "__bool__": "",
+                            "__eq__": "other"}},
+    "trailing": {"Keeps": {"__init__": "heights", "shows": "net, one, other, most", "__bool__": "", "__eq__": "other"},
+                 "Falls": {"__init__": "inlets", "shows": "net, one, other, most", "__bool__": "", "__eq__": "other"}},
 }
 FUNCTIONS = {
     "settling": {"settle": "net, balls, standing=None", "played": "net, balls, order, standing=None",
@@ -55,6 +68,15 @@ FUNCTIONS = {
     "nettexts": {"read_net": "text", "write_net": "net"},
     "freeing": {"judge_free": "net, names", "free_sets": "net"},
     "evenness": {"judge_even": "net, one, other"},
+    "goals": {"judge_goal": "net, goal, standing=None", "just_goal": "net, goal, most, standing=None"},
+    "telling": {"telling": "net, standings", "homing": "net, standings"},
+    "rooms": {"judge_room": "net, balls, room", "least_room": "net, balls"},
+    "changing": {"changed": "net, change", "judge_change": "net, goal", "begun_like": "net, goal"},
+    "groups": {"sum_of": "net, standing", "factors": "net", "standing_with": "net, numbers",
+               "many_times": "net, standing, many"},
+    "reaching": {"judge_reach": "net, one, other, names", "fewest_to": "net, one, other, name", "reaching_sets": "net"},
+    "tidying": {"is_tidy": "net", "tidied": "net", "tidied_standing": "net, standing", "alike_places": "net"},
+    "trailing": {"judge_behind": "net, one, other, most", "least_behind": "net, one, other"},
 }
 
 

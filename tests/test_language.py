@@ -19,7 +19,8 @@ METHODS = set("""append clear copy count endswith extend find get index insert i
 DUNDERS = set("""__init__ __eq__ __repr__ __str__ __len__ __iter__ __bool__ __contains__ __getitem__ __enter__
                  __exit__""".split())
 STATEMENTS = (ast.Assign, ast.AugAssign, ast.If, ast.While, ast.For, ast.Return, ast.Break, ast.Continue, ast.Pass,
-              ast.Raise, ast.Assert, ast.Delete, ast.Expr, ast.With, ast.FunctionDef, ast.ClassDef, ast.ImportFrom)
+              ast.Raise, ast.Assert, ast.Delete, ast.Expr, ast.With, ast.FunctionDef, ast.ClassDef, ast.ImportFrom,
+              ast.Try)
 BARRED = ("type", "typing", "enum", "Enum", "Generic", "Protocol", "ABC", "namedtuple", "Meta", "dataclass", "overload",
           "register", "mro", "elements", "open", "input", "law", "_wall")
 VIEWS = {"zip", "enumerate", "reversed", "range"}
@@ -182,6 +183,14 @@ class Parts(unittest.TestCase):
         for name, part in parts(ast.Raise):
             self.assertIsInstance(part.exc, ast.Call, name)
             self.assertIsInstance(part.exc.func, ast.Name, name)
+
+    def test_own_errors_alone_are_caught(self):
+        own = {part.name for name, part in parts(ast.ClassDef) if name == "errors.py"}
+        for name, part in parts(ast.Try):
+            self.assertFalse(part.finalbody, name)
+            for handler in part.handlers:
+                self.assertIsInstance(handler.type, ast.Name, name)
+                self.assertIn(handler.type.id, own, name)
 
     def test_is_stands_with_none_alone(self):
         for name, part in parts(ast.Compare):
