@@ -126,7 +126,7 @@ def first_telling(walk, standings, target):
 
 def groups_of(many, pairs):
     """The groups of so many standings of which just these pairs, ascending, are in the same one."""
-    firsts = [one for one in range(many)]
+    firsts = list(range(many))
     for one, other in pairs:
         firsts[other] = firsts[one]
     return tuple(numbered(firsts))

@@ -69,8 +69,8 @@ class Leads:
         self.walk = Walk(net)
         self.one = net.outlets.index(one)
         self.other = net.outlets.index(other)
-        self.start = places_of(net, net.start())
-        self.least = {self.start: 0}
+        self.first = places_of(net, net.start())
+        self.least = {self.first: 0}
 
     def steps_at(self, places):
         """For each inlet the places behind a ball there, and by how much the one outlet is further ahead then."""
@@ -84,7 +84,7 @@ class Leads:
 
     def lead_behind(self, inlets):
         """By how much the one outlet is ahead behind balls at these inlets."""
-        places, lead = self.start, 0
+        places, lead = self.first, 0
         for inlet in inlets:
             places, gain = self.steps_at(places)[inlet]
             lead += gain
@@ -92,8 +92,8 @@ class Leads:
 
     def first_behind(self, most):
         """The inlets of as few balls as can be behind which the one outlet is more than most behind, or None."""
-        self.least = {self.start: 0}
-        led = {(self.start, 0): None}
+        self.least = {self.first: 0}
+        led = {(self.first, 0): None}
         near = list(led)
         while near:
             far = []

@@ -24,6 +24,8 @@ STATEMENTS = (ast.Assign, ast.AugAssign, ast.If, ast.While, ast.For, ast.Return,
 BARRED = ("type", "typing", "enum", "Enum", "Generic", "Protocol", "ABC", "namedtuple", "Meta", "dataclass", "overload",
           "register", "mro", "elements", "open", "input", "law", "_wall")
 VIEWS = {"zip", "enumerate", "reversed", "range"}
+# Examples that are run give "_" a meaning there.
+BUILTINS = set(dir(builtins)) - {"_"}
 
 
 def files():
@@ -107,8 +109,8 @@ class Names(unittest.TestCase):
             given = kept + [part.name for part in tree.body if isinstance(part, ast.FunctionDef)]
             given += [target.id for part in tree.body if isinstance(part, ast.Assign) for target in part.targets]
             self.assertEqual(len(given), len(set(given)), name)
-            self.assertFalse(set(given) & set(dir(builtins)), name)
-            self.assertFalse(set(bound_names(tree)) & (set(kept) | set(dir(builtins))), name)
+            self.assertFalse(set(given) & BUILTINS, name)
+            self.assertFalse(set(bound_names(tree)) & (set(kept) | BUILTINS), name)
 
     def test_barred_words(self):
         for name, tree in trees():
@@ -117,6 +119,27 @@ class Names(unittest.TestCase):
             for word in words:
                 self.assertNotIn(word, BARRED)
                 self.assertTrue(word in DUNDERS or not word.startswith("__"), (name, word))
+
+
+    def test_words_that_occur_nowhere(self):
+        for path in files():
+            for word in ("Meta", "(type)", "metaclass=", "_wall", "dataclass", "overload", "contextmanager"):
+                self.assertNotIn(word, text_of(path), path)
+
+    def test_no_name_is_a_method_and_an_attribute_of_one_class(self):
+        for name, part in parts(ast.ClassDef):
+            methods = {method.name for method in part.body if isinstance(method, ast.FunctionDef)}
+            given = {told.attr for told in ast.walk(part) if isinstance(told, ast.Attribute)
+                     and isinstance(told.ctx, ast.Store)}
+            self.assertFalse(methods & given, (name, part.name))
+
+    def test_attributes_that_are_read_are_given(self):
+        given = {part.attr for _, part in parts(ast.Attribute) if isinstance(part.ctx, ast.Store)} | {"MOST"}
+        for name, tree in trees():
+            called = {id(part.func) for part in ast.walk(tree) if isinstance(part, ast.Call)}
+            for part in ast.walk(tree):
+                if isinstance(part, ast.Attribute) and isinstance(part.ctx, ast.Load) and id(part) not in called:
+                    self.assertIn(part.attr, given, (name, part.lineno))
 
 
 class Parts(unittest.TestCase):
