@@ -118,16 +118,11 @@ def is_end(waits):
 
 def check_room(net, balls, room):
     """Raises BadNet, NeverEnds, BadBalls or BadNumber if this cannot be asked."""
-    check_inlet_balls(net, balls)
-    if not is_number(room) or not 1 <= room <= MOST_ROOM:
-        raise BadNumber("a room is a number from 1 to 9")
-
-
-def check_inlet_balls(net, balls):
-    """Raises BadNet, NeverEnds or BadBalls if these are no balls at inlets of a net that ends."""
     turn_inverse(net)
     if not are_balls(balls, net.inlets):
         raise BadBalls("balls are a dict from inlets to numbers from 0")
+    if not is_number(room) or not 1 <= room <= MOST_ROOM:
+        raise BadNumber("a room is a number from 1 to 9")
 
 
 def judge_room(net, balls, room):
@@ -152,7 +147,6 @@ def judge_room(net, balls, room):
 
 def least_room(net, balls):
     """The least room with which these balls fit, None if they do not with any."""
-    check_inlet_balls(net, balls)
     for room in range(1, MOST_ROOM + 1):
         if judge_room(net, balls, room):
             return room

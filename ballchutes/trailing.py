@@ -62,7 +62,8 @@ class Falls:
 class Leads:
     """By how much an outlet of a net is ahead of another one, from the start on.
 
-    `least` has, for the places of the standings that were reached, the least such number behind balls that lead there.
+    `least` has, for the places of the standings that first_behind met, the least such number behind balls that lead
+    there, as far as it looked.
     """
 
     def __init__(self, net, one, other):
@@ -70,7 +71,7 @@ class Leads:
         self.one = net.outlets.index(one)
         self.other = net.outlets.index(other)
         self.first = places_of(net, net.start())
-        self.least = {self.first: 0}
+        self.least = {}
 
     def steps_at(self, places):
         """For each inlet the places behind a ball there, and by how much the one outlet is further ahead then."""
@@ -100,7 +101,7 @@ class Leads:
             for places, lead in near:
                 for inlet, (behind, gain) in self.steps_at(places).items():
                     now = lead + gain
-                    # Only where it is further behind than by as few balls before it may fall behind by fewer.
+                    # A standing to which no more balls led no less behind is passed over: it falls behind no sooner.
                     if now < self.least.get(behind, now + 1):
                         self.least[behind] = now
                         led[behind, now] = ((places, lead), inlet)

@@ -331,6 +331,13 @@ class BegunLike(unittest.TestCase):
                   {"in": "c", "on": "a"}, ["x", "y"])
         self.assertEqual(begun_like(net, begun_at(net, {"a": 1, "b": 1, "c": 1})), {"a": 0, "b": 1, "c": 0})
 
+    def test_one_knot_off_its_first_place_ahead_of_two(self):
+        net = Net({"a": ((), (("x",), ("y",))), "b": ((), (("x",), ("y",))), "c": ((), (("a",), ("b",)))}, {"in": "c"}, ["x", "y"])
+        goal = begun_at(net, {"a": 0, "b": 1, "c": 1})
+        self.assertEqual([standing for standing in plain.all_standings(net) if judge_alike(begun_at(net, standing), goal)],
+                         [{"a": 0, "b": 1, "c": 1}, {"a": 1, "b": 0, "c": 0}])
+        self.assertEqual(begun_like(net, goal), {"a": 1, "b": 0, "c": 0})
+
     def test_fronts_and_other_knots(self):
         net = Net({"k": ((("x",), ("x",)), (("y",), ("x",)))}, {"in": "k"}, ["x", "y"])
         goal = Net({"p": ((), (("q",),)), "q": ((("x",),), (("y",), ("x",)))}, {"in": "p"}, ["x", "y"])

@@ -93,6 +93,8 @@ class Judging(unittest.TestCase):
         self.assertEqual((bool(found), least_room(net, {"in": 1}), found.shows(net, {"in": 1}, 9)), (False, None, True))
         self.assertEqual(found.counts, [(0, 0), (1, 0), (1, 1), (1, 2)])
         self.assertEqual((least_room(net, {"in": 0}), least_room(samples.begun(net, {"a": 1}), {"in": 1})), (1, 7))
+        just = Net({"a": ((("a",) * 4, ("a",) * 4, ("a",) * 3), (("x",),))}, {"in": "a"}, ["x"])
+        self.assertEqual((least_room(just, {"in": 1}), bool(judge_room(just, {"in": 1}, 8))), (9, False))
         wide = Net({"a": ((), (("a", "a", "a", "x"),) * 3 + ((),) * 7)}, {"in": "a"}, ["x"])
         self.assertEqual([least_room(wide, {"in": many}) for many in (1, 2, 3, 4)], [7, 7, 7, 7])
 
@@ -242,6 +244,13 @@ class ShowingJams(unittest.TestCase):
         for wrong in ((3, 0, 0, 0), (0, 2, 0, 0), (-1, 0, 0, 0), (0, 0, -1, 0), (0, 0, 0, -1), (), (0, 0, 0), (0,) * 5, (1, 0, 0),
                       (10 ** 30, 0, 0, 0)):
             self.assertIs(self.shows(self.counts + [wrong]), False, wrong)
+
+    def test_less_than_none_taken(self):
+        """Steps lead from such tuples to others that are told; but nothing is done less often than not at all."""
+        for at in range(4):
+            less = [counts[:at] + (counts[at] - 1,) + counts[at + 1:] for counts in self.counts]
+            self.assertIs(self.shows(self.counts + less), False)
+            self.assertIs(self.shows(self.counts + [counts for counts in less if counts not in self.counts]), False)
 
     def test_the_end_among_them(self):
         end = (2, 1, 2, 5)

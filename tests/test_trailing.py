@@ -272,6 +272,11 @@ class ShowingFalls(unittest.TestCase):
         for inlets in (["in", "in"], ["in", "on"], ["on", "in"], ("on", "on")):
             self.assertIs(Falls(inlets).shows(net, "x", "y", 0), True)
 
+    def test_lists_as_long_that_do_not_lead_as_far(self):
+        net = Net({"a": ((), (("y",), ("y",), ("x",), ("x",))), "b": ((), (("x", "y"),))}, {"in": "a", "on": "b"}, ["x", "y"])
+        for inlets, expected in ((["in", "in"], True), (["in", "on"], False), (["on", "in"], False), (["on", "on"], False)):
+            self.assertIs(Falls(inlets).shows(net, "x", "y", 1), expected)
+
     def test_names_that_are_no_inlets(self):
         for name in ("b", "x", "q", "", "z"):
             for at in range(3):
